@@ -1,0 +1,1 @@
+"""Numbers and formulas: what all of bandrims counts with."""
