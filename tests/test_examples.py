@@ -1,15 +1,26 @@
-"""Each example of the document, word for word."""
+"""Each example of the document, word for word, and those of README.md."""
 
+import builtins
+import doctest
 import re
 import unittest
 from pathlib import Path
 
-from bandrims.bands import webs
+from bandrims.bands import changes, codes, webs
 from bandrims.base import formulas, numbers
+from bandrims.lots import lists
+from bandrims.sides import pairings, solutions
+from bandrims.tables import forms, recursion
+from bandrims.tops import tau
 
 HERE = Path(__file__).resolve().parent
 DOC = HERE.parent.parent / "shared" / "DOC.md"
-MODULES = {"numbers": numbers, "formulas": formulas, "webs": webs}
+README = HERE.parent / "README.md"
+MODULES = {"numbers": numbers, "formulas": formulas, "webs": webs, "codes": codes, "changes": changes, "lists": lists,
+           "solutions": solutions, "pairings": pairings, "recursion": recursion, "forms": forms, "tau": tau}
+# How many lines of each file are typed, those among them that make THETA and CROSS.
+TYPED = {"numbers": 5, "formulas": 5, "webs": 7, "codes": 7, "changes": 7, "lists": 6, "solutions": 6, "pairings": 6,
+         "recursion": 3, "forms": 5, "tau": 5}
 RAISED = re.compile(r"raises (\w+)(?:\((.*)\))?")
 
 
@@ -27,7 +38,8 @@ def steps_of(text):
 class Examples(unittest.TestCase):
     def run_steps(self, name):
         text = (HERE / "examples" / f"{name}.txt").read_text()
-        space = dict(vars(MODULES[name]))
+        # All examples can use webs, whatever the module of their stage imports.
+        space = {"Web": webs.Web, **vars(MODULES[name])}
         for typed, shown in steps_of(text):
             with self.subTest(typed=typed):
                 self.check_step(space, typed, shown)
@@ -58,6 +70,38 @@ class Examples(unittest.TestCase):
     def test_webs(self):
         self.run_steps("webs")
 
+    def test_codes(self):
+        self.run_steps("codes")
+
+    def test_changes(self):
+        self.run_steps("changes")
+
+    def test_lists(self):
+        self.run_steps("lists")
+
+    def test_solutions(self):
+        self.run_steps("solutions")
+
+    def test_pairings(self):
+        self.run_steps("pairings")
+
+    def test_recursion(self):
+        self.run_steps("recursion")
+
+    def test_forms(self):
+        self.run_steps("forms")
+
+    def test_tau(self):
+        self.run_steps("tau")
+
     def test_no_example_is_left_out(self):
         many = {name: len(steps_of((HERE / "examples" / f"{name}.txt").read_text())) for name in MODULES}
-        self.assertEqual(many, {"numbers": 5, "formulas": 5, "webs": 7})
+        self.assertEqual(many, TYPED)
+
+    def test_readme(self):
+        blocks = re.findall(r"```\n(>>>.*?)```", README.read_text(), re.S)
+        test = doctest.DocTestParser().get_doctest("".join(blocks), {}, "README.md", None, 0)
+        self.assertGreater(len(test.examples), 20)
+        self.assertEqual(doctest.DocTestRunner().run(test).failed, 0)
+        # doctest leaves what was shown last among the builtins.
+        vars(builtins).pop("_", None)

@@ -4,8 +4,12 @@ import inspect
 import unittest
 
 from bandrims import errors
-from bandrims.bands import webs
+from bandrims.bands import changes, codes, webs
 from bandrims.base import formulas, numbers
+from bandrims.lots import lists
+from bandrims.sides import pairings, solutions
+from bandrims.tables import forms, recursion
+from bandrims.tops import tau
 
 FUNCTIONS = {
     numbers: {
@@ -20,7 +24,50 @@ FUNCTIONS = {
     webs: {
         "is_web_data": ["value"], "are_lengths": ["web", "value"], "are_whole_lengths": ["web", "value"],
         "rim_lengths": ["web", "lengths"], "tie_weights": ["web", "name"]},
+    codes: {
+        "code_from": ["web", "end"], "least_code": ["web"], "is_code": ["value"], "web_of_code": ["code"],
+        "are_alike": ["one", "other"], "likeness": ["one", "other"], "is_likeness": ["one", "other", "value"],
+        "symmetries": ["web"], "symmetry_number": ["web"], "renamed": ["web", "order"], "shuffled": ["web", "order"],
+        "mirrored": ["web"], "rim_orders": ["web"], "has_turning": ["web"]},
+    changes: {
+        "drawn_together": ["web", "end"], "parted": ["web", "first", "second"], "taken_out": ["web", "end"],
+        "put_in": ["web", "first", "second"], "is_flip": ["web", "value"], "flipped": ["web", "end"],
+        "turned_over": ["web"], "flips_between": ["one", "other"], "is_flips": ["one", "other", "value"]},
+    lists: {
+        "full_webs": ["handles", "many"], "threes_webs": ["handles", "many"], "each_full": ["handles", "many"],
+        "place_in_list": ["web"], "web_numbers": ["handles", "many"], "degree_numbers": ["handles", "many"],
+        "web_sum": ["handles", "many", "ties"], "drawn_places": ["web"]},
+    solutions: {
+        "solution_number": ["web", "rims"], "web_count": ["web", "rims"], "solutions": ["web", "rims"],
+        "a_solution": ["web", "rims"], "is_solution": ["web", "rims", "value"],
+        "led_lengths": ["web", "lengths", "move"], "keeping_number": ["web", "lengths"],
+        "least_solutions": ["web", "rims"], "count_by_lists": ["handles", "rims"]},
+    pairings: {
+        "is_pairing": ["rims", "value"], "is_proper": ["rims", "pairing"], "side_after": ["rims", "side"],
+        "side_web": ["rims", "pairing"], "pairings": ["rims"], "web_of_pairing": ["rims", "pairing"],
+        "pairing_of_web": ["web", "lengths"], "turned_pairing": ["rims", "pairing", "steps"],
+        "count_by_pairings": ["handles", "rims"]},
+    recursion: {
+        "count_by_rims": ["handles", "rims"], "rim_sum": ["call", "handles", "rims"],
+        "is_zero_count": ["handles", "rims"], "least_sum": ["handles", "many"], "rim_choices": ["handles", "rims"]},
+    forms: {
+        "count_form": ["handles", "many", "odd"], "is_count_form": ["handles", "many", "odd", "value"],
+        "count_forms": ["handles", "many"], "form_top": ["handles", "many"], "count": ["handles", "rims"],
+        "extended_count": ["handles", "rims"], "sum_below": ["handles", "rims"]},
+    tau: {
+        "handles_of": ["exponents"], "tau_number": ["exponents"], "tau_terms": ["exponents"],
+        "tau_row": ["handles", "many"], "tau_by_rules": ["exponents"]},
 }
+GENERATORS = {lists: ["each_full"], solutions: ["solutions"], pairings: ["pairings"]}
+CONSTANTS = {
+    codes: {"MOST_ENDS": 48, "MOST_RIMS": 8}, changes: {"MAX_TIES": 24, "MAX_RIMS": 8, "MOST_FLIPS": 200},
+    lists: {"MAX_DEPTH": 4}, solutions: {"MAX_SUM": 30}, pairings: {"MAX_SIDES": 12, "MAX_SUM": 1000},
+    recursion: {"MAX_SUM": 40, "MOST_DEPTH": 5, "MOST_RIMS": 6}, forms: {"MAX_DEPTH": 5, "MAX_SUMMED": 40},
+    tau: {"MOST_SUM": 20, "MOST_EXPONENTS": 8}}
+NAMES = {
+    codes: "bandrims.bands.codes", changes: "bandrims.bands.changes", lists: "bandrims.lots.lists",
+    solutions: "bandrims.sides.solutions", pairings: "bandrims.sides.pairings",
+    recursion: "bandrims.tables.recursion", forms: "bandrims.tables.forms", tau: "bandrims.tops.tau"}
 METHODS = {
     formulas.Formula: {
         "__init__": ["letters", "terms"], "plus": ["other"], "minus": ["other"], "times": ["other"],
@@ -50,6 +97,19 @@ class Interface(unittest.TestCase):
     def test_modules(self):
         told = ["bandrims.errors", "bandrims.base.numbers", "bandrims.base.formulas", "bandrims.bands.webs"]
         self.assertEqual([module.__name__ for module in (errors, numbers, formulas, webs)], told)
+        for module, name in NAMES.items():
+            self.assertEqual(module.__name__, name)
+
+    def test_constants(self):
+        for module, told in CONSTANTS.items():
+            for name, number in told.items():
+                self.assertEqual((type(vars(module)[name]), vars(module)[name]), (int, number))
+
+    def test_generators(self):
+        for module, calls in FUNCTIONS.items():
+            for name in calls:
+                told = name in GENERATORS.get(module, [])
+                self.assertIs(inspect.isgeneratorfunction(getattr(module, name)), told, name)
 
     def test_functions(self):
         for module, calls in FUNCTIONS.items():

@@ -137,6 +137,40 @@ class Language(unittest.TestCase):
             if isinstance(node, ast.Call) and isinstance(node.func, ast.Name) and node.func.id in TAKES_LIST:
                 self.assertFalse(any([isinstance(arg, ast.GeneratorExp) for arg in node.args]), spot)
 
+    def test_classes(self):
+        for node, spot in self.each_node(ast.ClassDef):
+            self.assertTrue(node.name[0].isalpha(), spot)
+
+    def test_stars(self):
+        for node, spot in self.each_node(ast.Call):
+            for one in node.args:
+                if isinstance(one, ast.Starred):
+                    self.assertIsInstance(one.value, (ast.Name, ast.Attribute, ast.List, ast.Tuple), spot)
+            if isinstance(node.func, ast.Name):
+                # A later stage has objects that are iterated over and have a length: there these must not stand.
+                self.assertNotIn(node.func.id, ("product", "combinations", "permutations"), spot)
+
+    def test_errors_are_made_where_they_are_raised(self):
+        for node, spot in self.each_node(ast.Raise):
+            self.assertIsInstance(node.exc, ast.Call, spot)
+            self.assertRegex(node.exc.func.id, "Error|Invalid|Refused|TooMany", spot)
+
+    def test_generators_are_iterated_at_once(self):
+        told = {"each_full", "solutions", "pairings", "fillings", "all_pairings"}
+        yielding = set()
+        for node, spot in self.each_node(ast.FunctionDef):
+            if any([isinstance(one, (ast.Yield, ast.YieldFrom)) for one in ast.walk(node)]):
+                yielding.add(node.name)
+        self.assertEqual(yielding, told)
+        for path in files():
+            tree = ast.parse(path.read_text())
+            loops = [node.iter for node in ast.walk(tree) if isinstance(node, ast.For)]
+            for node in ast.walk(tree):
+                if isinstance(node, ast.Name) and node.id in told:
+                    calls = [loop for loop in loops if isinstance(loop, ast.Call) and loop.func is node]
+                    self.assertEqual(len(calls), 1, f"{path} {node.lineno}")
+                    self.assertTrue(all([isinstance(arg, ast.Name) for arg in calls[0].args]))
+
     def test_strings(self):
         for node, spot in self.each_node(ast.Constant):
             self.assertNotIsInstance(node.value, (float, complex, bytes), spot)

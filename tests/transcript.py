@@ -3,11 +3,23 @@
 .ci/run compares what this prints under all Pythons at hand: it must be the same to the letter.
 """
 
+from bandrims.bands.changes import flips_between
+from bandrims.bands.codes import has_turning, least_code, rim_orders, symmetries
 from bandrims.bands.webs import Web
 from bandrims.base.formulas import Formula
+from bandrims.lots.lists import degree_numbers, drawn_places, full_webs, threes_webs, web_sum
+from bandrims.sides.pairings import pairings, web_of_pairing
+from bandrims.sides.solutions import count_by_lists, least_solutions
+from bandrims.tables.forms import count, count_forms, sum_below
+from bandrims.tables.recursion import count_by_rims
+from bandrims.tops.tau import tau_by_rules, tau_row, tau_terms
 from tests.calls import ONE, TWO, F, G, outcome
-from tests.kinds import CROSS, RINGS, THETA, kinds, short
+from tests.kinds import CROSS, RINGS, THETA, kinds, short, show
+from tests.specs import ALL
+from tests.test_changes import LISTED
 from tests.test_conventions import few
+from tests.test_recursion import PAIRS, some_rims
+from tests.test_tau import some_exponents
 
 
 def main():
@@ -23,6 +35,44 @@ def main():
     for web in (THETA, CROSS, RINGS, Web.bundle(8), Web.crossed(12)):
         print(web, web.heads, web.places, web.rims, web.degrees, web.handles, web.is_full, web.is_threes, len(web))
     print(Formula(8, {(1,) * 8: 1}))
+    wrong_values()
+    webs_and_lists()
+    counts()
+
+
+def wrong_values():
+    """What all functions with told parameters do with values of every kind in the place of each one."""
+    for name, (call, parameters) in ALL.items():
+        samples = [parameter.sample for parameter in parameters]
+        for place in range(len(parameters)):
+            for value in kinds():
+                args = samples[:place] + [value] + samples[place + 1:]
+                print(f"{name}, {place}, {short(value)}: {outcome(call, *args)}")
+
+
+def webs_and_lists():
+    """What lists and webs of lists are like."""
+    for pair in LISTED:
+        webs = full_webs(*pair)
+        print(pair, show(webs), degree_numbers(*pair), [web_sum(*pair, ties) for ties in range(1, 11)])
+        for web in webs[::9]:
+            print(least_code(web), symmetries(web), rim_orders(web), has_turning(web), drawn_places(web))
+            print(least_solutions(web, (6,) * pair[1]))
+        threes = threes_webs(*pair)
+        print([flips_between(threes[0], web) for web in threes])
+    for rims in ((2, 2, 2), (8,), (3, 5)):
+        print([(pairing, outcome(web_of_pairing, rims, pairing)) for pairing in pairings(rims)])
+
+
+def counts():
+    """Counts in several ways, forms and tau numbers."""
+    for pair in PAIRS:
+        print(pair, [str(form) for form in count_forms(*pair)], tau_row(*pair))
+    for handles, rims in some_rims(20):
+        print(handles, rims, count_by_rims(handles, rims), count(handles, rims), sum_below(handles, rims),
+              outcome(count_by_lists, handles, rims))
+    for exponents in some_exponents():
+        print(exponents, tau_terms(exponents), tau_by_rules(exponents))
 
 
 main()

@@ -159,3 +159,31 @@ def _row_without(whole, spot):
         carried = number + spot * carried
         found.append(carried)
     return found[::-1]
+
+
+def exponents_up_to(letters, degree):
+    """The ascending list of all tuples of so many exponents with a sum of at most the degree."""
+    found = [()]
+    for _ in range(letters):
+        found = [row + (k,) for row in found for k in range(degree - sum(row) + 1)]
+    return found
+
+
+def value_at_whole(terms, values):
+    """The value at these integers, one for each letter."""
+    most = max([exponent for row in terms for exponent in row], default=0)
+    powers = [_powers(value, most) for value in values]
+    found = []
+    for row, (top, bottom) in terms.items():
+        for place, exponent in enumerate(row):
+            top = top * powers[place][exponent]
+        found.append((top, bottom))
+    return pair_total(found)
+
+
+def _powers(value, most):
+    """The list of the powers of an integer with the exponents from 0 on."""
+    found = [1]
+    for _ in range(most):
+        found.append(found[-1] * value)
+    return found

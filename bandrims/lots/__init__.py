@@ -1,0 +1,1 @@
+"""Lots of webs."""

@@ -1,0 +1,1 @@
+"""Webs with lengths, and the sides of polygons they are glued of."""

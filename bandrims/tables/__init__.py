@@ -1,0 +1,1 @@
+"""Counts by recursions and by formulas."""

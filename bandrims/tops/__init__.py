@@ -1,0 +1,1 @@
+"""The greatest parts of the formulas of counts."""
