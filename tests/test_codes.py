@@ -260,6 +260,9 @@ class Likenesses(unittest.TestCase, Refusing):
             self.assertIsNone(likeness(one, other))
             self.assertIs(is_likeness(one, other, tuple(ends(one))), False)
             self.assertIs(is_likeness(one, other, tuple(ends(other))), False)
+        for one, other in ((HEXAGON, CROSS), (CROSS, HEXAGON), (THETA, Web.bundle(1)), (Web.bundle(1), CROSS)):
+            for move in itertools.permutations(ends(one)):
+                self.assertIs(is_likeness(one, other, move), False)
 
     def test_wrong_moves(self):
         self.judges_kinds(lambda value: is_likeness(THETA, THETA, value), lambda value: False)

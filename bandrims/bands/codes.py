@@ -25,7 +25,7 @@ def least_code(web):
 
 def is_code(value):
     """Whether the value is the code of some web from some end."""
-    if not isinstance(value, tuple) or not 1 <= len(value) <= MOST_ENDS:
+    if not isinstance(value, tuple) or len(value) > MOST_ENDS:
         return False
     if not all([isinstance(row, tuple) and len(row) == 3 for row in value]):
         return False

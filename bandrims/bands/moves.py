@@ -76,7 +76,7 @@ def can_flip(after, mate, end):
 
 def _is_three(after, end):
     """Whether the place of the end has three ends."""
-    return after[end] != end and after[after[end]] != end and after[after[after[end]]] == end
+    return after[end] != end and after[after[after[end]]] == end
 
 
 def flipped_once(after, mate, names, end):

@@ -35,7 +35,7 @@ def all_pairings(many):
         else:
             side = begun.index(-1)
             # What is put there last is taken first.
-            for partner in reversed(range(side + 1, many)):
+            for partner in range(many - 1, side, -1):
                 if begun[partner] == -1:
                     waiting.append(_with_pair(begun, side, partner))
 

@@ -35,7 +35,6 @@ def count_forms(handles, many):
 
 def form_top(handles, many):
     """The part of the greatest degree, which all forms of the pair have."""
-    _need_shallow_pair(handles, many)
     return count_form(handles, many, 0).part(depth_of(handles, many))
 
 

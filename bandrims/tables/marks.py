@@ -7,7 +7,7 @@ passed.
 
 from math import comb
 
-from bandrims.base.bounds import depth_of, is_pair
+from bandrims.base.bounds import depth_of
 from bandrims.base.pairs import loose_sum, pair_product, reduced
 from bandrims.tables.kernels import merging_row, splitting_row
 from bandrims.tables.steps import fallen_apart
@@ -76,7 +76,7 @@ class MarkTable:
     def two_parts(self, handles, one, other, rest, ways):
         """The number with both marks in the place of the first one, and those of webs that fall apart."""
         found = (0, 1)
-        if is_pair(handles - 1, 2 + len(rest)):
+        if handles > 0:
             found = self.number(handles - 1, (one, other) + rest)
         for h, near, k, far in ways:
             found = loose_sum(found, pair_product(self.number(h, (one,) + near), self.number(k, (other,) + far)))

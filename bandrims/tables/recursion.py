@@ -1,6 +1,6 @@
 """Counts by a recursion that takes rows of ties out of webs."""
 
-from bandrims.base.bounds import is_pair, need_handles, need_many, need_rims, need_shallow
+from bandrims.base.bounds import need_handles, need_many, need_rims, need_shallow
 from bandrims.base.numbers import is_number
 from bandrims.base.pairs import as_pair, loose_sum, pair_product, reduced
 from bandrims.errors import InvalidOperation, Refused, TooMany
@@ -77,11 +77,11 @@ class CountTable:
 def _step_sum(number, handles, rims):
     """The sum of all terms, divided by the sum of the lengths; a call tells the counts, fractions."""
     found = (0, 1)
+    # Only (0, 3) is no pair with one rim less, and with it the recursion begins.
     for i, j, q in merged_triples(rims):
         p = rims[i] + rims[j] - q
-        if is_pair(handles, len(rims) - 1):
-            told = number(handles, (p,) + rest_without(rims, (i, j)))
-            found = loose_sum(found, (p * q * told[0], told[1]))
+        told = number(handles, (p,) + rest_without(rims, (i, j)))
+        found = loose_sum(found, (p * q * told[0], told[1]))
     for i, length in enumerate(rims):
         found = loose_sum(found, _split_sum(number, handles, length, rest_without(rims, (i,))))
     return reduced(found[0], found[1] * sum(rims))
@@ -93,7 +93,7 @@ def _split_sum(number, handles, length, rest):
     ways = fallen_apart(handles, rest)
     for p, q, r in split_lengths(length):
         told = (0, 1)
-        if is_pair(handles - 1, 2 + len(rest)):
+        if handles > 0:
             told = number(handles - 1, (p, q) + rest)
         for h, one, k, other in ways:
             told = loose_sum(told, pair_product(number(h, (p,) + one), number(k, (q,) + other)))

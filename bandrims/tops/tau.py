@@ -28,8 +28,6 @@ def tau_number(exponents):
 def tau_terms(exponents):
     """The parts of which the recursion adds up the tau number, and by what each is multiplied."""
     _need_exponents(exponents)
-    if handles_of_sum(len(exponents), sum(exponents)) is None or exponents in ((0, 0, 0), (1,)):
-        return ()
     return tuple([(parts, factor) for parts, factor in first_parts(exponents).items()])
 
 

@@ -17,8 +17,8 @@ def handles_of_sum(many, total):
 def first_parts(exponents):
     """The dict from parts to the pairs by which their tau numbers are multiplied.
 
-    The exponents have handles, and are neither (0, 0, 0) nor (1,). Each part is a descending tuple of
-    exponents; parts without handles are left out.
+    Each part is a descending tuple of exponents; parts without handles are left out. So there are none
+    for exponents without handles, for (0, 0, 0) and for (1,).
     """
     k = exponents[0]
     rest = exponents[1:]
