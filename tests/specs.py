@@ -1,10 +1,11 @@
-"""What each function of stages 4 to 11 takes, for tests that pass values of every kind to all of them.
+"""What each function of stages 4 to 15 takes, for tests that pass values of every kind to all of them.
 
 A parameter is told by a right value, by what tells right values from wrong ones while all parameters
 ahead have their right values, and by the error for wrong ones with the attribute that keeps the value.
 """
 
 from collections import namedtuple
+from fractions import Fraction
 from itertools import islice
 
 from bandrims.bands import changes, codes
@@ -13,9 +14,10 @@ from bandrims.errors import (
     InvalidLengths, InvalidMove, InvalidNumber, InvalidOperation, InvalidPairing, InvalidRims, InvalidWeb)
 from bandrims.lots import lists
 from bandrims.sides import pairings, solutions
+from bandrims.signs import euler, onerim
 from bandrims.tables import forms, recursion
-from bandrims.tops import tau
-from tests.kinds import CROSS, THETA, between, is_short, row_of
+from bandrims.tops import tau, threes, volumes
+from tests.kinds import CROSS, THETA, between, is_either, is_short, row_of
 
 Parameter = namedtuple("Parameter", ["sample", "right", "error", "kept"])
 
@@ -29,6 +31,27 @@ def is_row(low, most=8):
     """Tells tuples of one integer or more, none of them below low."""
     return lambda value: (type(value) is tuple and 1 <= len(value) <= most
                           and all([is_short(item) and item >= low for item in value]))
+
+
+def row_from(low, high, most=8):
+    """Tells tuples of one integer or more, all of them within bounds."""
+    return lambda value: is_row(low, most)(value) and max(value) <= high
+
+
+def is_length_up_to(high):
+    """Tells tuples of 1 to 8 numbers from 0 to a bound."""
+    return lambda value: (type(value) is tuple and 1 <= len(value) <= 8
+                          and all([is_either(item) and 0 <= as_fraction(item) <= high for item in value]))
+
+
+def is_numbers_above_0(many):
+    """Tells tuples of so many numbers above 0."""
+    return lambda value: row_of(many, is_either)(value) and all([as_fraction(item) > 0 for item in value])
+
+
+def as_fraction(number):
+    """The number as one of Python's own."""
+    return Fraction(*number) if type(number) is tuple else Fraction(number)
 
 
 def is_even_to(many):
@@ -85,6 +108,12 @@ PAIRING = Parameter((2, 3, 0, 1), never, InvalidPairing, None)
 EXPONENTS = Parameter((1, 1), is_row(0), InvalidOperation, None)
 STEPS = Parameter((1,), row_of(1, between(0, 3)), InvalidMove, None)
 MOVE = Parameter((2, 3, 1, 0), never, InvalidOperation, None)
+NUMBER = Parameter((1, 2), is_either, InvalidNumber, "given")
+VALUES = Parameter((1, (1, 2), 3), is_numbers_above_0(3), InvalidOperation, None)
+SIGNED = Parameter(2, between(0, 20), InvalidNumber, "given")
+GLUED = Parameter(3, between(0, 100), InvalidNumber, "given")
+ONE_HANDLE = Parameter(1, lambda value: is_short(value) and value >= 1, InvalidNumber, "given")
+GLUING = Parameter((2, 3, 0, 1), lambda value: value == (1, 0) and is_short(value[0]), InvalidPairing, None)
 
 SPECS = {
     codes.code_from: [web(), end()],
@@ -153,8 +182,36 @@ SPECS = {
     tau.tau_terms: [EXPONENTS],
     tau.tau_row: [HANDLES, MANY],
     tau.tau_by_rules: [EXPONENTS],
+    volumes.volume_form: [HANDLES, MANY],
+    volumes.volume_number: [HANDLES, Parameter((0, 0, 0), row_from(0, 60), InvalidOperation, None)],
+    volumes.volume: [HANDLES, Parameter((0, 1, (1, 2)), is_length_up_to(10 ** 18), InvalidRims, None)],
+    volumes.zero_rim_form: [HANDLES, MANY],
+    volumes.short_rim_form: [HANDLES, MANY],
+    volumes.grown: [HANDLES, MANY, NUMBER],
+    threes.web_product: [web(), VALUES],
+    threes.threes_terms: [HANDLES, MANY, VALUES],
+    threes.threes_sum: [HANDLES, MANY, VALUES],
+    threes.tau_sum: [HANDLES, MANY, VALUES],
+    threes.tau_by_threes: [EXPONENTS],
+    euler.euler_number: [SIGNED, SIGNED],
+    euler.tie_sums: [HANDLES, MANY],
+    euler.signed_sum: [HANDLES, MANY],
+    euler.zero_value: [HANDLES, MANY],
+    euler.one_rim_sum: [Parameter(1, between(1, 6), InvalidNumber, "given")],
+    onerim.gluings: [HANDLES, GLUED],
+    onerim.gluing_row: [GLUED],
+    onerim.gluing_value: [GLUED, Parameter(2, between(0, 10 ** 6), InvalidNumber, "given")],
+    onerim.bare_gluings: [ONE_HANDLE, GLUED],
+    onerim.full_gluings: [ONE_HANDLE, GLUED],
+    onerim.is_gluing: [JUDGED],
+    onerim.gluing_pairings: [Parameter(2, between(1, 6), InvalidNumber, "given")],
+    onerim.web_of_gluing: [GLUING],
+    onerim.gluing_of_web: [web(CROSS), end(0, 4)],
+    onerim.gluing_handles: [GLUING],
+    onerim.turns_of: [GLUING],
+    onerim.turned: [GLUING, end(0, 4)],
 }
-GENERATORS = (lists.each_full, solutions.solutions, pairings.pairings)
+GENERATORS = (lists.each_full, solutions.solutions, pairings.pairings, onerim.gluing_pairings)
 
 
 def plain(call):

@@ -10,17 +10,19 @@ from bandrims.bands import changes, codes, webs
 from bandrims.base import formulas, numbers
 from bandrims.lots import lists
 from bandrims.sides import pairings, solutions
+from bandrims.signs import euler, onerim
 from bandrims.tables import forms, recursion
-from bandrims.tops import tau
+from bandrims.tops import tau, threes, volumes
 
 HERE = Path(__file__).resolve().parent
 DOC = HERE.parent.parent / "shared" / "DOC.md"
 README = HERE.parent / "README.md"
 MODULES = {"numbers": numbers, "formulas": formulas, "webs": webs, "codes": codes, "changes": changes, "lists": lists,
-           "solutions": solutions, "pairings": pairings, "recursion": recursion, "forms": forms, "tau": tau}
+           "solutions": solutions, "pairings": pairings, "recursion": recursion, "forms": forms, "tau": tau,
+           "volumes": volumes, "threes": threes, "euler": euler, "onerim": onerim}
 # How many lines of each file are typed, those among them that make THETA and CROSS.
 TYPED = {"numbers": 5, "formulas": 5, "webs": 7, "codes": 7, "changes": 7, "lists": 6, "solutions": 6, "pairings": 6,
-         "recursion": 3, "forms": 5, "tau": 5}
+         "recursion": 3, "forms": 5, "tau": 5, "volumes": 4, "threes": 7, "euler": 3, "onerim": 6}
 RAISED = re.compile(r"raises (\w+)(?:\((.*)\))?")
 
 
@@ -93,6 +95,18 @@ class Examples(unittest.TestCase):
 
     def test_tau(self):
         self.run_steps("tau")
+
+    def test_volumes(self):
+        self.run_steps("volumes")
+
+    def test_threes(self):
+        self.run_steps("threes")
+
+    def test_euler(self):
+        self.run_steps("euler")
+
+    def test_onerim(self):
+        self.run_steps("onerim")
 
     def test_no_example_is_left_out(self):
         many = {name: len(steps_of((HERE / "examples" / f"{name}.txt").read_text())) for name in MODULES}

@@ -8,8 +8,9 @@ from bandrims.bands import changes, codes, webs
 from bandrims.base import formulas, numbers
 from bandrims.lots import lists
 from bandrims.sides import pairings, solutions
+from bandrims.signs import euler, onerim
 from bandrims.tables import forms, recursion
-from bandrims.tops import tau
+from bandrims.tops import tau, threes, volumes
 
 FUNCTIONS = {
     numbers: {
@@ -57,17 +58,36 @@ FUNCTIONS = {
     tau: {
         "handles_of": ["exponents"], "tau_number": ["exponents"], "tau_terms": ["exponents"],
         "tau_row": ["handles", "many"], "tau_by_rules": ["exponents"]},
+    volumes: {
+        "volume_form": ["handles", "many"], "volume_number": ["handles", "exponents"], "volume": ["handles", "lengths"],
+        "zero_rim_form": ["handles", "many"], "short_rim_form": ["handles", "many"],
+        "grown": ["handles", "many", "number"]},
+    threes: {
+        "web_product": ["web", "values"], "threes_terms": ["handles", "many", "values"],
+        "threes_sum": ["handles", "many", "values"], "tau_sum": ["handles", "many", "values"],
+        "tau_by_threes": ["exponents"]},
+    euler: {
+        "euler_number": ["handles", "many"], "tie_sums": ["handles", "many"], "signed_sum": ["handles", "many"],
+        "zero_value": ["handles", "many"], "one_rim_sum": ["handles"]},
+    onerim: {
+        "gluings": ["handles", "ties"], "gluing_row": ["ties"], "gluing_value": ["ties", "colours"],
+        "bare_gluings": ["handles", "ties"], "full_gluings": ["handles", "ties"], "is_gluing": ["value"],
+        "gluing_pairings": ["ties"], "web_of_gluing": ["pairing"], "gluing_of_web": ["web", "end"],
+        "gluing_handles": ["pairing"], "turns_of": ["pairing"], "turned": ["pairing", "steps"]},
 }
-GENERATORS = {lists: ["each_full"], solutions: ["solutions"], pairings: ["pairings"]}
+GENERATORS = {lists: ["each_full"], solutions: ["solutions"], pairings: ["pairings"], onerim: ["gluing_pairings"]}
 CONSTANTS = {
     codes: {"MOST_ENDS": 48, "MOST_RIMS": 8}, changes: {"MAX_TIES": 24, "MAX_RIMS": 8, "MOST_FLIPS": 200},
     lists: {"MAX_DEPTH": 4}, solutions: {"MAX_SUM": 30}, pairings: {"MAX_SIDES": 12, "MAX_SUM": 1000},
     recursion: {"MAX_SUM": 40, "MOST_DEPTH": 5, "MOST_RIMS": 6}, forms: {"MAX_DEPTH": 5, "MAX_SUMMED": 40},
-    tau: {"MOST_SUM": 20, "MOST_EXPONENTS": 8}}
+    tau: {"MOST_SUM": 20, "MOST_EXPONENTS": 8}, volumes: {"MOST_LENGTH": 10 ** 18}, euler: {"MAX_EULER": 20},
+    onerim: {"MOST_TIES": 100, "MOST_COLOURS": 10 ** 6, "MOST_GLUED": 24, "MOST_LISTED": 6}}
 NAMES = {
     codes: "bandrims.bands.codes", changes: "bandrims.bands.changes", lists: "bandrims.lots.lists",
     solutions: "bandrims.sides.solutions", pairings: "bandrims.sides.pairings",
-    recursion: "bandrims.tables.recursion", forms: "bandrims.tables.forms", tau: "bandrims.tops.tau"}
+    recursion: "bandrims.tables.recursion", forms: "bandrims.tables.forms", tau: "bandrims.tops.tau",
+    volumes: "bandrims.tops.volumes", threes: "bandrims.tops.threes", euler: "bandrims.signs.euler",
+    onerim: "bandrims.signs.onerim"}
 METHODS = {
     formulas.Formula: {
         "__init__": ["letters", "terms"], "plus": ["other"], "minus": ["other"], "times": ["other"],

@@ -156,7 +156,7 @@ class Language(unittest.TestCase):
             self.assertRegex(node.exc.func.id, "Error|Invalid|Refused|TooMany", spot)
 
     def test_generators_are_iterated_at_once(self):
-        told = {"each_full", "solutions", "pairings", "fillings", "all_pairings"}
+        told = {"each_full", "solutions", "pairings", "fillings", "all_pairings", "gluing_pairings"}
         yielding = set()
         for node, spot in self.each_node(ast.FunctionDef):
             if any([isinstance(one, (ast.Yield, ast.YieldFrom)) for one in ast.walk(node)]):

@@ -10,14 +10,19 @@ from bandrims.base.formulas import Formula
 from bandrims.lots.lists import degree_numbers, drawn_places, full_webs, threes_webs, web_sum
 from bandrims.sides.pairings import pairings, web_of_pairing
 from bandrims.sides.solutions import count_by_lists, least_solutions
+from bandrims.signs.euler import euler_number, one_rim_sum, signed_sum, tie_sums, zero_value
+from bandrims.signs.onerim import bare_gluings, full_gluings, gluing_of_web, gluing_row, gluing_value, turns_of, web_of_gluing
 from bandrims.tables.forms import count, count_forms, sum_below
 from bandrims.tables.recursion import count_by_rims
 from bandrims.tops.tau import tau_by_rules, tau_row, tau_terms
+from bandrims.tops.threes import tau_by_threes, tau_sum, threes_sum, threes_terms
+from bandrims.tops.volumes import grown, short_rim_form, volume_form, zero_rim_form
 from tests.calls import ONE, TWO, F, G, outcome
 from tests.kinds import CROSS, RINGS, THETA, kinds, short, show
 from tests.specs import ALL
 from tests.test_changes import LISTED
 from tests.test_conventions import few
+from tests.test_onerim import some_gluings
 from tests.test_recursion import PAIRS, some_rims
 from tests.test_tau import some_exponents
 
@@ -38,6 +43,7 @@ def main():
     wrong_values()
     webs_and_lists()
     counts()
+    tops_and_signs()
 
 
 def wrong_values():
@@ -73,6 +79,23 @@ def counts():
               outcome(count_by_lists, handles, rims))
     for exponents in some_exponents():
         print(exponents, tau_terms(exponents), tau_by_rules(exponents))
+
+
+def tops_and_signs():
+    """Volumes, sums over webs of threes, sums with signs and gluings."""
+    for pair in PAIRS:
+        print(pair, [str(call(*pair)) for call in (volume_form, zero_rim_form, short_rim_form)], grown(*pair, (3, 7)).terms)
+        values = tuple(range(2, 2 + pair[1]))
+        print([outcome(call, *pair, values) for call in (tau_sum, threes_sum, threes_terms)])
+        print([outcome(call, *pair) for call in (euler_number, tie_sums, signed_sum, zero_value)])
+    for exponents in some_exponents():
+        print(exponents, outcome(tau_by_threes, exponents))
+    print([one_rim_sum(handles) for handles in range(1, 7)], [euler_number(20, many) for many in range(21)])
+    for ties in range(0, 101, 9):
+        print(ties, gluing_row(ties), gluing_value(ties, 7), bare_gluings(2, ties), full_gluings(5, ties))
+    for pairing in some_gluings():
+        web = web_of_gluing(pairing)
+        print(pairing, web, turns_of(pairing), [gluing_of_web(web, end) for end in range(0, len(pairing), 7)])
 
 
 main()

@@ -15,19 +15,19 @@ MOST_EXPONENTS = 8
 
 def handles_of(exponents):
     """The number of handles that the exponents have, None if they have none."""
-    _need_exponents(exponents)
+    need_exponents(exponents)
     return handles_of_sum(len(exponents), sum(exponents))
 
 
 def tau_number(exponents):
     """The tau number."""
-    _need_exponents(exponents)
+    need_exponents(exponents)
     return TauTable().number(exponents)
 
 
 def tau_terms(exponents):
     """The parts of which the recursion adds up the tau number, and by what each is multiplied."""
-    _need_exponents(exponents)
+    need_exponents(exponents)
     return tuple([(parts, factor) for parts, factor in first_parts(exponents).items()])
 
 
@@ -44,7 +44,7 @@ def tau_row(handles, many):
 
 def tau_by_rules(exponents):
     """The tau number by the rules for no handles, one exponent, 0 and 1 alone, None if they do not tell it."""
-    _need_exponents(exponents)
+    need_exponents(exponents)
     return _by_rules(tuple(sorted(exponents)), {})
 
 
@@ -98,7 +98,7 @@ def _is_descending(row):
     return all([row[k] >= row[k + 1] for k in range(len(row) - 1)])
 
 
-def _need_exponents(exponents):
+def need_exponents(exponents):
     """Refuses what is no tuple of exponents, and exponents with too great a sum."""
     if not is_row(exponents, 0):
         raise InvalidOperation("the exponents are no tuple of one to eight integers of at least 0")

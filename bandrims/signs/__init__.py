@@ -1,0 +1,1 @@
+"""Sums with signs, and gluings of one rim."""
