@@ -5,6 +5,8 @@ from math import gcd
 from bandrims.bands.webs import Web
 from bandrims.base.formulas import Formula
 from bandrims.errors import InvalidNumber, InvalidWeb, ParseError, Refused
+from bandrims.nodes.pieces import Pieces
+from bandrims.use.desk import Desk
 
 THETA = Web((2, 5, 4, 1, 0, 3), (1, 0, 3, 2, 5, 4), (0, 1, 1, 2, 2, 0))
 CROSS = Web((2, 3, 1, 0), (1, 0, 3, 2), (0, 0, 0, 0))
@@ -35,6 +37,7 @@ def kinds():
     deep = [nested(lambda x: (x,), 1), nested(lambda x: [x], 1), nested(lambda x: {0: x}, 1), nested(lambda x: (x, x), ())]
     deep += [{nested(lambda x: (x,), 0): 1}, ((0, 1), (1, 0), (0, 0)), ((0, 1), (1, 0), (False, False))]
     objects = [Formula(1, {}), Formula(2, {(1, 0): 1}), Formula(8, {}), THETA, CROSS]
+    objects += [Pieces(((0, (0, 1, 2)),), ()), Pieces(((0, (0, 1)), (1, ())), ((0, 1),)), Desk()]
     objects += [InvalidNumber(1), ParseError(0), Refused(("pair",)), InvalidWeb("no web")]
     return whole + long + plain + texts + tuples + mixed + long_tuples + lists + dicts + deep + objects
 
@@ -77,6 +80,10 @@ def show(value):
         return f"Formula({value.letters}, {value.terms})"
     if isinstance(value, Web):
         return f"Web({value.after}, {value.mate}, {value.names})"
+    if isinstance(value, Pieces):
+        return f"Pieces({value.kinds}, {value.nodes})"
+    if isinstance(value, Desk):
+        return f"Desk({value.lines}, {value.pledges}, {value.changes})"
     if isinstance(value, BaseException):
         kept = [f"{name}={show(item)}" for name, item in sorted(vars(value).items())]
         return f"{type(value).__name__}({', '.join(kept)})"

@@ -1,4 +1,4 @@
-"""What each function of stages 4 to 15 takes, for tests that pass values of every kind to all of them.
+"""What each function of stages 4 to 19 takes, for tests that pass values of every kind to all of them.
 
 A parameter is told by a right value, by what tells right values from wrong ones while all parameters
 ahead have their right values, and by the error for wrong ones with the attribute that keeps the value.
@@ -10,14 +10,19 @@ from itertools import islice
 
 from bandrims.bands import changes, codes
 from bandrims.bands.webs import Web
+from bandrims.crossing import rounds
 from bandrims.errors import (
-    InvalidLengths, InvalidMove, InvalidNumber, InvalidOperation, InvalidPairing, InvalidRims, InvalidWeb)
+    InvalidLengths, InvalidMove, InvalidNumber, InvalidOperation, InvalidPairing, InvalidPieces, InvalidRims, InvalidWeb)
 from bandrims.lots import lists
+from bandrims.nodes import pieces
+from bandrims.nodes.pieces import Pieces
 from bandrims.sides import pairings, solutions
 from bandrims.signs import euler, onerim
 from bandrims.tables import forms, recursion
 from bandrims.tops import tau, threes, volumes
-from tests.kinds import CROSS, THETA, between, is_either, is_short, row_of
+from bandrims.use import desk
+from bandrims.wide import borders
+from tests.kinds import CROSS, THETA, between, is_either, is_short, is_whole, row_of
 
 Parameter = namedtuple("Parameter", ["sample", "right", "error", "kept"])
 
@@ -113,6 +118,11 @@ VALUES = Parameter((1, (1, 2), 3), is_numbers_above_0(3), InvalidOperation, None
 SIGNED = Parameter(2, between(0, 20), InvalidNumber, "given")
 GLUED = Parameter(3, between(0, 100), InvalidNumber, "given")
 ONE_HANDLE = Parameter(1, lambda value: is_short(value) and value >= 1, InvalidNumber, "given")
+PIECES = Parameter(Pieces(((0, (0, 1)), (1, ())), ((0, 1),)), lambda value: isinstance(value, Pieces), InvalidPieces, None)
+JOINED = Parameter((0, 2, 4), is_row(0), InvalidRims, None)
+BORDERS = Parameter((0, 1, (1, 2)), is_length_up_to(10 ** 200), InvalidRims, None)
+TREE = Parameter((0,), lambda value: row_of(1, is_short)(value) and value[0] in (0, 2, 4), InvalidOperation, None)
+ROW = Parameter((1, -1, 0), lambda value: row_of(3, is_whole)(value) and sum(value) == 0, InvalidOperation, None)
 GLUING = Parameter((2, 3, 0, 1), lambda value: value == (1, 0) and is_short(value[0]), InvalidPairing, None)
 
 SPECS = {
@@ -210,6 +220,34 @@ SPECS = {
     onerim.gluing_handles: [GLUING],
     onerim.turns_of: [GLUING],
     onerim.turned: [GLUING, end(0, 4)],
+    pieces.are_alike_pieces: [PIECES, JUDGED],
+    pieces.all_joined: [HANDLES, MANY],
+    pieces.node_numbers: [HANDLES, MANY],
+    pieces.joined_terms: [HANDLES, JOINED],
+    pieces.joined_count: [HANDLES, JOINED],
+    pieces.joined_form: [HANDLES, MANY, ODD],
+    pieces.closed_euler: [HANDLES, MANY],
+    borders.wide_form: [HANDLES, MANY],
+    borders.wide_by_tau: [HANDLES, MANY],
+    borders.wide_value: [HANDLES, BORDERS, NUMBER],
+    borders.kernel: [Parameter(3, between(1, 20), InvalidNumber, "given")],
+    borders.border_cut: [HANDLES, MANY],
+    borders.border_slope: [HANDLES, MANY],
+    borders.closed_number: [Parameter(2, HANDLES.right, InvalidNumber, "given")],
+    rounds.is_closed: [web(), JUDGED],
+    rounds.is_tree: [web(), JUDGED],
+    rounds.tree_ties: [web()],
+    rounds.round_of: [web(), TREE, end(2)],
+    rounds.tree_rounds: [web(), TREE],
+    rounds.rim_row: [web(), end(0, 3)],
+    rounds.rim_weights: [web(), ROW],
+    rounds.crossing_number: [web(), ROW, ROW],
+    rounds.crossing_table: [web(), TREE],
+    rounds.mixed_table: [web(), TREE],
+    rounds.is_tight: [web(), JUDGED],
+    rounds.tight_number: [web()],
+    rounds.is_bridge: [web(), end()],
+    desk.is_pledge: [JUDGED],
 }
 GENERATORS = (lists.each_full, solutions.solutions, pairings.pairings, onerim.gluing_pairings)
 

@@ -25,6 +25,10 @@ for _name in ("added", "less", "multiplied", "divided", "compared"):
     FIRST[_name] = (is_either, errors.InvalidNumber, is_either)
 for _name in ("are_lengths", "are_whole_lengths", "rim_lengths", "tie_weights"):
     FIRST[_name] = (lambda value: isinstance(value, Web), errors.InvalidWeb, None)
+for _name in ("Desk.draw", "Desk.take", "Desk.flip"):
+    FIRST[_name] = (lambda value: type(value) is str and value in ("a", "b"), errors.UnknownName, None)
+for _name in ("Desk.put", "Desk.twice"):
+    FIRST[_name] = (lambda value: type(value) is str and value == "z", errors.InvalidOperation, None)
 
 
 def few():
@@ -72,7 +76,7 @@ class Conventions(unittest.TestCase):
 
     def test_judging_never_raises(self):
         for name, call in ONE.items():
-            if name.startswith("is_") and name != "is_symmetric" or name.endswith("__eq__"):
+            if name.startswith("is_") and name != "is_symmetric" or name.endswith(("__eq__", "in desk")):
                 for value in kinds():
                     with self.subTest(call=name, value=short(value)):
                         self.assertIs(type(call(value)), bool)
@@ -88,6 +92,8 @@ class Conventions(unittest.TestCase):
                         self.assertIs(type(found), kind)
                         if kind is errors.InvalidNumber:
                             self.assertIs(found.given, one)
+                        if kind is errors.UnknownName:
+                            self.assertIs(found.name, one)
 
     def test_the_second_error_is_told_otherwise(self):
         for name, (first, _, right) in FIRST.items():

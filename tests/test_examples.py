@@ -8,21 +8,27 @@ from pathlib import Path
 
 from bandrims.bands import changes, codes, webs
 from bandrims.base import formulas, numbers
+from bandrims.crossing import rounds
 from bandrims.lots import lists
+from bandrims.nodes import pieces
 from bandrims.sides import pairings, solutions
 from bandrims.signs import euler, onerim
 from bandrims.tables import forms, recursion
 from bandrims.tops import tau, threes, volumes
+from bandrims.use import desk
+from bandrims.wide import borders
 
 HERE = Path(__file__).resolve().parent
 DOC = HERE.parent.parent / "shared" / "DOC.md"
 README = HERE.parent / "README.md"
 MODULES = {"numbers": numbers, "formulas": formulas, "webs": webs, "codes": codes, "changes": changes, "lists": lists,
            "solutions": solutions, "pairings": pairings, "recursion": recursion, "forms": forms, "tau": tau,
-           "volumes": volumes, "threes": threes, "euler": euler, "onerim": onerim}
+           "volumes": volumes, "threes": threes, "euler": euler, "onerim": onerim, "pieces": pieces, "borders": borders,
+           "rounds": rounds, "desk": desk}
 # How many lines of each file are typed, those among them that make THETA and CROSS.
 TYPED = {"numbers": 5, "formulas": 5, "webs": 7, "codes": 7, "changes": 7, "lists": 6, "solutions": 6, "pairings": 6,
-         "recursion": 3, "forms": 5, "tau": 5, "volumes": 4, "threes": 7, "euler": 3, "onerim": 6}
+         "recursion": 3, "forms": 5, "tau": 5, "volumes": 4, "threes": 7, "euler": 3, "onerim": 6,
+         "pieces": 6, "borders": 3, "rounds": 6, "desk": 7}
 RAISED = re.compile(r"raises (\w+)(?:\((.*)\))?")
 
 
@@ -35,6 +41,12 @@ def steps_of(text):
         else:
             found[-1] = (found[-1][0], line)
     return found
+
+
+def steps_of_doc():
+    """All such pairs of the document."""
+    blocks = re.findall(r"```\n(>>>.*?)```", DOC.read_text(), re.S)
+    return [step for block in blocks for step in steps_of(block)]
 
 
 class Examples(unittest.TestCase):
@@ -108,9 +120,25 @@ class Examples(unittest.TestCase):
     def test_onerim(self):
         self.run_steps("onerim")
 
+    def test_pieces(self):
+        self.run_steps("pieces")
+
+    def test_borders(self):
+        self.run_steps("borders")
+
+    def test_rounds(self):
+        self.run_steps("rounds")
+
+    def test_desk(self):
+        self.run_steps("desk")
+
     def test_no_example_is_left_out(self):
         many = {name: len(steps_of((HERE / "examples" / f"{name}.txt").read_text())) for name in MODULES}
         self.assertEqual(many, TYPED)
+        if DOC.exists():
+            # The two lines that make THETA and CROSS stand in several files, and once in the document.
+            told = [step for name in MODULES for step in steps_of((HERE / "examples" / f"{name}.txt").read_text())]
+            self.assertEqual(set(told), set(steps_of_doc()))
 
     def test_readme(self):
         blocks = re.findall(r"```\n(>>>.*?)```", README.read_text(), re.S)

@@ -6,11 +6,15 @@ import unittest
 from bandrims import errors
 from bandrims.bands import changes, codes, webs
 from bandrims.base import formulas, numbers
+from bandrims.crossing import rounds
 from bandrims.lots import lists
+from bandrims.nodes import pieces
 from bandrims.sides import pairings, solutions
 from bandrims.signs import euler, onerim
 from bandrims.tables import forms, recursion
 from bandrims.tops import tau, threes, volumes
+from bandrims.use import desk
+from bandrims.wide import borders
 
 FUNCTIONS = {
     numbers: {
@@ -74,6 +78,21 @@ FUNCTIONS = {
         "bare_gluings": ["handles", "ties"], "full_gluings": ["handles", "ties"], "is_gluing": ["value"],
         "gluing_pairings": ["ties"], "web_of_gluing": ["pairing"], "gluing_of_web": ["web", "end"],
         "gluing_handles": ["pairing"], "turns_of": ["pairing"], "turned": ["pairing", "steps"]},
+    pieces: {
+        "are_alike_pieces": ["one", "value"], "all_joined": ["handles", "many"], "node_numbers": ["handles", "many"],
+        "joined_terms": ["handles", "rims"], "joined_count": ["handles", "rims"],
+        "joined_form": ["handles", "many", "odd"], "closed_euler": ["handles", "many"]},
+    borders: {
+        "wide_form": ["handles", "many"], "wide_by_tau": ["handles", "many"],
+        "wide_value": ["handles", "borders", "square"], "kernel": ["step"], "border_cut": ["handles", "many"],
+        "border_slope": ["handles", "many"], "closed_number": ["handles"]},
+    rounds: {
+        "is_closed": ["web", "value"], "is_tree": ["web", "value"], "tree_ties": ["web"],
+        "round_of": ["web", "tree", "end"], "tree_rounds": ["web", "tree"], "rim_row": ["web", "name"],
+        "rim_weights": ["web", "row"], "crossing_number": ["web", "one", "other"], "crossing_table": ["web", "tree"],
+        "mixed_table": ["web", "tree"], "is_tight": ["web", "value"], "tight_number": ["web"],
+        "is_bridge": ["web", "end"]},
+    desk: {"is_pledge": ["value"]},
 }
 GENERATORS = {lists: ["each_full"], solutions: ["solutions"], pairings: ["pairings"], onerim: ["gluing_pairings"]}
 CONSTANTS = {
@@ -81,13 +100,19 @@ CONSTANTS = {
     lists: {"MAX_DEPTH": 4}, solutions: {"MAX_SUM": 30}, pairings: {"MAX_SIDES": 12, "MAX_SUM": 1000},
     recursion: {"MAX_SUM": 40, "MOST_DEPTH": 5, "MOST_RIMS": 6}, forms: {"MAX_DEPTH": 5, "MAX_SUMMED": 40},
     tau: {"MOST_SUM": 20, "MOST_EXPONENTS": 8}, volumes: {"MOST_LENGTH": 10 ** 18}, euler: {"MAX_EULER": 20},
-    onerim: {"MOST_TIES": 100, "MOST_COLOURS": 10 ** 6, "MOST_GLUED": 24, "MOST_LISTED": 6}}
+    onerim: {"MOST_TIES": 100, "MOST_COLOURS": 10 ** 6, "MOST_GLUED": 24, "MOST_LISTED": 6},
+    pieces: {"MAX_DEPTH": 3, "MOST_PIECES": 6, "MOST_NODES": 6}, borders: {"MAX_DEPTH": 4, "MOST_STEP": 20},
+    desk: {"MAX_WEBS": 6, "MAX_PLEDGES": 10}, numbers: {
+        "MAX_NAME": 8, "MAX_RAISED": 1000, "MAX_CHOSEN": 1000, "MAX_BERNOULLI": 60, "MAX_TEXT": 400},
+    formulas: {"MAX_LETTERS": 8, "MAX_DEGREE": 60, "MAX_TERMS": 2000, "MAX_TEXT": 4000},
+    webs: {"MAX_TIES": 24, "MAX_RIMS": 8}}
 NAMES = {
     codes: "bandrims.bands.codes", changes: "bandrims.bands.changes", lists: "bandrims.lots.lists",
     solutions: "bandrims.sides.solutions", pairings: "bandrims.sides.pairings",
     recursion: "bandrims.tables.recursion", forms: "bandrims.tables.forms", tau: "bandrims.tops.tau",
     volumes: "bandrims.tops.volumes", threes: "bandrims.tops.threes", euler: "bandrims.signs.euler",
-    onerim: "bandrims.signs.onerim"}
+    onerim: "bandrims.signs.onerim", pieces: "bandrims.nodes.pieces", borders: "bandrims.wide.borders",
+    rounds: "bandrims.crossing.rounds", desk: "bandrims.use.desk"}
 METHODS = {
     formulas.Formula: {
         "__init__": ["letters", "terms"], "plus": ["other"], "minus": ["other"], "times": ["other"],
@@ -96,12 +121,20 @@ METHODS = {
     webs.Web: {
         "__init__": ["after", "mate", "names"], "place_round": ["end"], "rim_round": ["end"], "tie_of": ["end"],
         "sides_of": ["end"], "__len__": [], "__str__": []},
+    pieces.Pieces: {"__init__": ["kinds", "nodes"], "least": [], "drawn": ["number"], "__len__": [], "__str__": []},
+    desk.Desk: {
+        "__init__": [], "put": ["name", "web"], "twice": ["name", "one"], "draw": ["name", "end"],
+        "part": ["name", "first", "second"], "take": ["name", "end"], "tie": ["name", "first", "second"],
+        "flip": ["name", "end"], "drop": ["name"], "rename": ["names"], "demand": ["pledge"], "waive": ["pledge"],
+        "trial": [], "during": ["call"], "twin": [], "web_named": ["name"], "__len__": [], "__str__": [], "__iter__": []},
 }
 CLASS_METHODS = {formulas.Formula: {"letter": ["letters", "place"]},
                  webs.Web: {"bundle": ["ties"], "crossed": ["handles"]}}
 PROPERTIES = {formulas.Formula: ["letters", "terms", "degree"],
               webs.Web: ["after", "mate", "names", "size", "heads", "places", "rims", "degrees", "handles", "is_full",
-                         "is_threes"]}
+                         "is_threes"],
+              pieces.Pieces: ["kinds", "nodes", "points", "handles", "many", "depth", "rearrangements"],
+              desk.Desk: ["labels", "lines", "pledges", "changes"]}
 KEPT = {"ParseError": "spot", "InvalidNumber": "given", "UnknownName": "name", "NothingToUndo": "wanted",
         "TooMany": "limit", "Refused": "reason"}
 
@@ -142,11 +175,25 @@ class Interface(unittest.TestCase):
     def test_classes(self):
         self.assertEqual(formulas.Formula.__module__, "bandrims.base.formulas")
         self.assertEqual(webs.Web.__module__, "bandrims.bands.webs")
+        self.assertEqual(pieces.Pieces.__module__, "bandrims.nodes.pieces")
+        self.assertEqual(desk.Desk.__module__, "bandrims.use.desk")
+        self.assertIn("__contains__", vars(desk.Desk))
         for kind, calls in METHODS.items():
             for name, told in calls.items():
                 self.assertIn(name, vars(kind))
                 self.assertEqual(parameters(vars(kind)[name])[1:], told, name)
             self.assertIn("__eq__", vars(kind))
+
+    def test_steps_of_a_desk(self):
+        for name in ("undo", "redo"):
+            (one,) = list(inspect.signature(vars(desk.Desk)[name]).parameters.values())[1:]
+            self.assertEqual((one.name, one.kind, one.default), ("many", one.KEYWORD_ONLY, 1))
+
+    def test_iterated_over(self):
+        # [0.2]: only where a section says so.
+        for made in (formulas.Formula(1, {}), webs.Web.bundle(1), pieces.Pieces(((0, (0, 1, 2)),), ())):
+            self.assertRaises(TypeError, iter, made)
+        self.assertEqual(list(desk.Desk()), [])
 
     def test_class_methods(self):
         for kind, calls in CLASS_METHODS.items():
@@ -167,4 +214,5 @@ class Interface(unittest.TestCase):
         self.assertEqual(numbers.fraction(bottom=4, top=2), (1, 2))
         made = formulas.Formula(terms={(1,): 2}, letters=1)
         self.assertEqual(made.fixed(number=3, place=0).at(values=(0,)), (6, 1))
+        self.assertEqual(desk.Desk().put(web=webs.Web.bundle(ties=1), name="a")[0], ())
         self.assertEqual(webs.tie_weights(name=0, web=webs.Web.bundle(ties=2)), (1, 1))

@@ -153,7 +153,7 @@ class Language(unittest.TestCase):
     def test_errors_are_made_where_they_are_raised(self):
         for node, spot in self.each_node(ast.Raise):
             self.assertIsInstance(node.exc, ast.Call, spot)
-            self.assertRegex(node.exc.func.id, "Error|Invalid|Refused|TooMany", spot)
+            self.assertRegex(node.exc.func.id, "Error|Invalid|Refused|TooMany|UnknownName|NothingToUndo", spot)
 
     def test_generators_are_iterated_at_once(self):
         told = {"each_full", "solutions", "pairings", "fillings", "all_pairings", "gluing_pairings"}

@@ -1,4 +1,4 @@
-"""[0.4], [0.5] and [0.7]: wrong values for the functions of stages 4 to 15, and the order of errors."""
+"""[0.4], [0.5] and [0.7]: wrong values for the functions of stages 4 to 19, and the order of errors."""
 
 import unittest
 

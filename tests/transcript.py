@@ -7,7 +7,10 @@ from bandrims.bands.changes import flips_between
 from bandrims.bands.codes import has_turning, least_code, rim_orders, symmetries
 from bandrims.bands.webs import Web
 from bandrims.base.formulas import Formula
+from bandrims.crossing.rounds import (
+    crossing_table, is_bridge, mixed_table, rim_row, rim_weights, tight_number, tree_rounds, tree_ties)
 from bandrims.lots.lists import degree_numbers, drawn_places, full_webs, threes_webs, web_sum
+from bandrims.nodes.pieces import all_joined, closed_euler, joined_form, joined_terms, node_numbers
 from bandrims.sides.pairings import pairings, web_of_pairing
 from bandrims.sides.solutions import count_by_lists, least_solutions
 from bandrims.signs.euler import euler_number, one_rim_sum, signed_sum, tie_sums, zero_value
@@ -17,13 +20,17 @@ from bandrims.tables.recursion import count_by_rims
 from bandrims.tops.tau import tau_by_rules, tau_row, tau_terms
 from bandrims.tops.threes import tau_by_threes, tau_sum, threes_sum, threes_terms
 from bandrims.tops.volumes import grown, short_rim_form, volume_form, zero_rim_form
+from bandrims.wide.borders import border_cut, border_slope, kernel, wide_by_tau, wide_form, wide_value
 from tests.calls import ONE, TWO, F, G, outcome
 from tests.kinds import CROSS, RINGS, THETA, kinds, short, show
 from tests.specs import ALL
 from tests.test_changes import LISTED
 from tests.test_conventions import few
+from tests.test_borders import CUT, WIDE
 from tests.test_onerim import some_gluings
+from tests.test_pieces import SMALL, some_pieces
 from tests.test_recursion import PAIRS, some_rims
+from tests.test_rounds import webs
 from tests.test_tau import some_exponents
 
 
@@ -44,6 +51,8 @@ def main():
     webs_and_lists()
     counts()
     tops_and_signs()
+    pieces_and_borders()
+    rows_of_webs()
 
 
 def wrong_values():
@@ -96,6 +105,29 @@ def tops_and_signs():
     for pairing in some_gluings():
         web = web_of_gluing(pairing)
         print(pairing, web, turns_of(pairing), [gluing_of_web(web, end) for end in range(0, len(pairing), 7)])
+
+
+def pieces_and_borders():
+    """Joined pieces, their counts and forms, and wide forms."""
+    for pair in SMALL:
+        print(pair, show(all_joined(*pair)), node_numbers(*pair), closed_euler(*pair), str(joined_form(*pair, 2 * (pair[1] // 2))))
+        print(joined_terms(pair[0], tuple(range(0, 2 * pair[1], 2))))
+    for joined in some_pieces():
+        print(joined, joined.points, joined.handles, joined.many, joined.depth, joined.rearrangements, show(joined.least()),
+              [outcome(joined.drawn, number) for number in range(len(joined.nodes))])
+    for pair in WIDE:
+        print(pair, str(wide_form(*pair)), str(wide_by_tau(*pair)), wide_value(pair[0], (2,) * pair[1], (1, 3)))
+    print([str(kernel(step)) for step in range(1, 21)], [(str(border_cut(*pair)), str(border_slope(*pair))) for pair in CUT])
+
+
+def rows_of_webs():
+    """Trees, rounds, crossings and tight lots of webs of all sorts."""
+    for web in webs()[::2]:
+        tree = tree_ties(web)
+        rounds = tree_rounds(web, tree)
+        print(web, tree, rounds, crossing_table(web, tree), mixed_table(web, tree), tight_number(web))
+        print([rim_row(web, name) for name in range(len(web.rims))], [rim_weights(web, row) for row in rounds],
+              [is_bridge(web, end) for end in web.heads])
 
 
 main()

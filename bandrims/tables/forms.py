@@ -4,9 +4,8 @@ from bandrims.base.bounds import (
     is_row, depth_of, is_odd_number, need_handles, need_many, need_rims, need_shallow)
 from bandrims.base.formulas import formula_of_terms
 from bandrims.base.pairs import pair_total
-from bandrims.base.terms import exponents_up_to, tidy_terms, value_at_whole
 from bandrims.errors import InvalidNumber, InvalidRims
-from bandrims.tables.marks import MarkTable
+from bandrims.tables.values import FormTable
 
 MAX_DEPTH = 5
 MAX_SUMMED = 40
@@ -15,7 +14,7 @@ MAX_SUMMED = 40
 def count_form(handles, many, odd):
     """The form for so many odd lengths, put first."""
     _need_form(handles, many, odd)
-    return formula_of_terms(many, form_terms(MarkTable(), handles, many, odd))
+    return formula_of_terms(many, FormTable().form(handles, many, odd))
 
 
 def is_count_form(handles, many, odd, value):
@@ -26,11 +25,8 @@ def is_count_form(handles, many, odd, value):
 def count_forms(handles, many):
     """The forms for 0, 2, .. odd lengths."""
     _need_shallow_pair(handles, many)
-    table = MarkTable()
-    return tuple([
-        formula_of_terms(many, form_terms(table, handles, many, odd))
-        for odd in range(0, many + 1, 2)
-    ])
+    table = FormTable()
+    return tuple([formula_of_terms(many, table.form(handles, many, odd)) for odd in range(0, many + 1, 2)])
 
 
 def form_top(handles, many):
@@ -43,7 +39,7 @@ def count(handles, rims):
     need_handles(handles)
     need_rims(rims)
     need_shallow(handles, len(rims), MAX_DEPTH)
-    return _value(handles, rims)
+    return FormTable().value(handles, rims)
 
 
 def extended_count(handles, rims):
@@ -52,7 +48,7 @@ def extended_count(handles, rims):
     if not is_row(rims, 0):
         raise InvalidRims("the rims are no tuple of 1 to 8 integers of at least 0")
     need_shallow(handles, len(rims), MAX_DEPTH)
-    return _value(handles, rims)
+    return FormTable().value(handles, rims)
 
 
 def sum_below(handles, rims):
@@ -62,50 +58,14 @@ def sum_below(handles, rims):
     if max(rims) > MAX_SUMMED:
         raise InvalidRims("a length of a rim is above 40")
     need_shallow(handles, len(rims), MAX_DEPTH)
-    table = MarkTable()
-    forms = {}
+    table = FormTable()
     found = []
     for j, length in enumerate(rims):
         # For all other k the sum of the lengths is odd.
         for k in range(2 - (sum(rims) - length) % 2, length, 2):
-            lengths = _odd_first(rims[:j] + (k,) + rims[j + 1:])
-            odd = _odd_number(lengths)
-            if odd not in forms:
-                forms[odd] = form_terms(table, handles, len(rims), odd)
-            top, bottom = value_at_whole(forms[odd], _squares(lengths))
+            top, bottom = table.value(handles, rims[:j] + (k,) + rims[j + 1:])
             found.append((k * top, bottom))
     return pair_total(found)
-
-
-def form_terms(table, handles, many, odd):
-    """The terms of the form; the table has the numbers that are known already."""
-    parities = (1,) * odd + (0,) * (many - odd)
-    rows = exponents_up_to(many, depth_of(handles, many))
-    return tidy_terms({row: table.number(handles, tuple(zip(parities, row))) for row in rows})
-
-
-def _value(handles, rims):
-    """The value of the form for these lengths, 0 for an odd sum."""
-    lengths = _odd_first(rims)
-    odd = _odd_number(lengths)
-    if odd % 2 == 1:
-        return (0, 1)
-    return value_at_whole(form_terms(MarkTable(), handles, len(lengths), odd), _squares(lengths))
-
-
-def _odd_first(rims):
-    """The list of the lengths, the odd ones first."""
-    return sorted(rims, key=lambda length: length % 2, reverse=True)
-
-
-def _odd_number(lengths):
-    """How many lengths are odd."""
-    return sum([length % 2 for length in lengths])
-
-
-def _squares(lengths):
-    """The list of the squares."""
-    return [length * length for length in lengths]
 
 
 def _need_shallow_pair(handles, many):

@@ -1,0 +1,1 @@
+"""Closed rows of webs and their crossings."""

@@ -1,0 +1,1 @@
+"""Pieces joined at nodes."""

@@ -1,0 +1,1 @@
+"""A desk with webs."""
