@@ -233,6 +233,32 @@ class Making(unittest.TestCase, Refusing):
                 self.assertIs(found.name, wrong)
         self.assertEqual(whole(desk), before)
 
+    def test_values_of_every_kind(self):
+        desk = desk_with("a", "b", pledges=[KEPT])
+        desk.drop("b")
+        desk.undo()
+        before = whole(desk)
+        for value in kinds():
+            if type(value) is not str or value != "a":
+                for call in (desk.drop, desk.web_named, lambda name: desk.draw(name, 0), lambda name: desk.part(name, 0, 2),
+                             lambda name: desk.take(name, 0), lambda name: desk.tie(name, 0, 5), lambda name: desk.flip(name, 0),
+                             lambda name: desk.twice("c", name)):
+                    self.assertIs(self.refuses(UnknownName, call, value).name, value)
+            if not is_a_name(value) or value == "a":
+                self.refuses(InvalidOperation, desk.put, value, None)
+                self.refuses(InvalidOperation, desk.twice, value, None)
+            if not isinstance(value, Web):
+                self.refuses(InvalidWeb, desk.put, "c", value)
+            if not is_short(value) or not 0 <= value < 6:
+                for call in (lambda end: desk.draw("a", end), lambda end: desk.part("a", end, None), lambda end: desk.part("a", 0, end),
+                             lambda end: desk.take("a", end), lambda end: desk.tie("a", end, None), lambda end: desk.tie("a", 0, end),
+                             lambda end: desk.flip("a", end)):
+                    self.assertIs(self.refuses(InvalidNumber, call, value).given, value)
+            if not is_short(value) or value < 0:
+                for call in (desk.undo, desk.redo):
+                    self.assertIs(self.refuses(InvalidNumber, lambda: call(many=value)).given, value)
+        self.assertEqual(whole(desk), before)
+
     def test_changes_of_webs(self):
         source = random.Random(191)
         webs = [THETA, CROSS, RINGS, LOOP, Web.bundle(8), Web.bundle(4), Web.crossed(12), Web.crossed(2), flipped(THETA, 0)]

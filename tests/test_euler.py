@@ -57,7 +57,8 @@ class Numbers(unittest.TestCase, Refusing):
     def test_bounds(self):
         self.assertEqual(euler.MAX_EULER, 20)
         for wrong in (-1, 21, True, None, "1", (1, 1), LONG, [1], 1.0):
-            self.refuses(InvalidNumber, euler_number, wrong, -1, given=wrong)
+            self.refuses(InvalidNumber, euler_number, wrong, -2, given=wrong)
+            self.refuses(InvalidNumber, euler_number, wrong, 9, given=wrong)
             self.refuses(InvalidNumber, euler_number, 0, wrong, given=wrong)
             self.refuses(InvalidNumber, euler_number, 20, wrong, given=wrong)
         for pair in ((0, 0), (0, 1), (0, 2), (1, 0)):

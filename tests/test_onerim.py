@@ -179,7 +179,8 @@ class Numbers(unittest.TestCase, Refusing):
         self.assertEqual(gluings(0, 1), 1)
         for wrong in (-1, 101, True, None):
             self.refuses(InvalidNumber, gluing_row, wrong, given=wrong)
-            self.refuses(InvalidNumber, gluing_value, wrong, -1, given=wrong)
+            self.refuses(InvalidNumber, gluing_value, wrong, -2, given=wrong)
+            self.refuses(InvalidNumber, gluing_value, wrong, 2, given=wrong)
         for wrong in (-1, 10 ** 6 + 1, True, None, (1, 1)):
             self.refuses(InvalidNumber, gluing_value, 0, wrong, given=wrong)
 

@@ -188,6 +188,7 @@ class Volumes(unittest.TestCase, Refusing):
         self.refuses(InvalidRims, volume, 9, (0,) * 9)
         self.refuses(Refused, volume, 0, (1, 1), reason=("pair",))
         self.refuses(TooMany, volume, 0, (1,) * 7, limit=5)
+        self.refuses(TooMany, volume, 0, (1,) * 8, limit=5)
         self.refuses(TooMany, volume, 2, (1,) * 3, limit=5)
 
 

@@ -64,10 +64,8 @@ def rim_weights(web, row):
             if near in weights and far not in weights:
                 weights[far] = weights[near] - number
     found = tuple([weights[name] for name in range(len(web.rims))])
-    sides = [web.sides_of(head) for head in web.heads]
-    if not all([found[near] - found[far] == number for (near, far), number in zip(sides, row)]):
-        return None
-    return found
+    told = [found[web.names[head]] - found[web.names[web.mate[head]]] for head in web.heads]
+    return found if tuple(told) == row else None
 
 
 def crossing_number(web, one, other):

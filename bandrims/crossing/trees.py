@@ -19,7 +19,8 @@ def ends_met(web, lot):
     waiting = [0]
     found = []
     while len(waiting) > 0:
-        for end in web.places[waiting.pop()]:
+        at = waiting.pop()
+        for end in web.places[at]:
             far = web.mate[end]
             if min(end, far) in lot and place_of[far] not in met:
                 met.append(place_of[far])

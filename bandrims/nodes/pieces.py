@@ -163,10 +163,8 @@ def _terms(handles, rims):
 def _piece_terms(table, piece, many, odd):
     """The terms, in the letters of all rims, of the count of a piece told by its handles, rims and points."""
     handles, names, points = piece
-    # The names ascend, so the odd lengths stand first, as the form wants them.
+    # The names ascend, so the odd lengths stand first, as the form wants them; it is 0 if they are an odd number.
     odd_ones = len([name for name in names if name < odd])
-    if odd_ones % 2 == 1:
-        return {}
     found = {}
     for row, pair in table.form(handles, len(names) + points, odd_ones).items():
         # The lengths at points are 0.
@@ -197,15 +195,13 @@ def _are_kinds(value):
 
 
 def _is_kind(value):
-    """Whether the value is a pair of a number of handles and of an ascending tuple of names of rims."""
+    """Whether the value is a pair of a number of handles and of a sorted tuple of integers."""
     if not isinstance(value, tuple) or len(value) != 2:
         return False
     handles, names = value
     if not is_within(handles, 0, _MOST_HANDLES) or not isinstance(names, tuple):
         return False
-    if not all([is_integer(name) for name in names]):
-        return False
-    return all([names[k] < names[k + 1] for k in range(len(names) - 1)])
+    return all([is_integer(name) for name in names]) and tuple(sorted(names)) == names
 
 
 def _are_nodes(value, many):

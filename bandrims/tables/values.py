@@ -13,7 +13,7 @@ class FormTable:
         self.known = {}
 
     def form(self, handles, many, odd):
-        """The terms of the form of a pair for so many odd lengths, put first."""
+        """The terms of the form of a pair for so many odd lengths, put first; none for an odd number of them."""
         key = (handles, many, odd)
         if key not in self.known:
             self.known[key] = self.worked_out(handles, many, odd)
@@ -27,8 +27,6 @@ class FormTable:
 
     def value(self, handles, rims):
         """The value of the form for these lengths, 0 for an odd sum."""
-        if sum(rims) % 2 == 1:
-            return (0, 1)
         lengths = odd_first(rims)
         odd = sum([length % 2 for length in lengths])
         return value_at_whole(self.form(handles, len(lengths), odd), [length * length for length in lengths])

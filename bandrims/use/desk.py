@@ -12,9 +12,7 @@ MAX_PLEDGES = 10
 
 def is_pledge(value):
     """Whether the value is a pledge."""
-    if not isinstance(value, tuple) or not 2 <= len(value) <= 4:
-        return False
-    if not isinstance(value[0], str) or not is_name(value[1]):
+    if not isinstance(value, tuple) or len(value) < 2 or not is_name(value[1]):
         return False
     word = value[0]
     rest = value[2:]
