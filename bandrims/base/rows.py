@@ -20,7 +20,8 @@ def solved(rows):
 
 def _first_with(rows, column):
     """The index of the first row that is not used and has a number other than 0 in a column."""
-    return [k for k in range(len(rows) - column) if rows[k][column][0] != 0][0]
+    fit = [k for k in range(len(rows) - column) if rows[k][column][0] != 0]
+    return fit[0]
 
 
 def _cleared(other, row, column):

@@ -97,9 +97,7 @@ def tight_number(web):
     """The number of all tight lots."""
     need_web(web)
     rows = _mixed_rows(web, _tree_of(web))
-    for k, row in enumerate(rows):
-        row[k] = row[k] + 1
-    return determinant(rows)
+    return determinant([row[:k] + [row[k] + 1] + row[k + 1:] for k, row in enumerate(rows)])
 
 
 def is_bridge(web, end):

@@ -111,8 +111,8 @@ def _split_once(kinds, nodes):
     for at, (handles, rims) in enumerate(kinds):
         if handles > 0:
             found.append((_with_kind(kinds, at, (handles - 1, rims)), nodes + ((at, at),)))
-        for joined in _nodes_parted(nodes, at, new):
-            joined = joined + ((at, new),)
+        for led in _nodes_parted(nodes, at, new):
+            joined = led + ((at, new),)
             points = points_of(new + 1, joined)
             for here, there in shares(rims):
                 for h in range(handles + 1):
