@@ -84,7 +84,8 @@ def flips_between(one, other):
     # The webs are met by the number of flips that they need, so that no row of flips is too long.
     while wanted not in met:
         found = []
-        for (after, mate, names), row in waiting:
+        # A list of its own is walked, since what the loop fills is what waits next.
+        for (after, mate, names), row in list(waiting):
             found.extend(_first_met(after, mate, names, row, met))
         waiting = found
     return met[wanted]
